@@ -571,7 +571,7 @@ func TestProductsOfGreatVectorsAreLinear(t *testing.T) {
 			}
 		}
 	}
-if fitting < 1000 {
+	if fitting < 1000 {
 		t.Errorf("only %d products fit", fitting)
 	}
 }
