@@ -43,30 +43,27 @@ func copyLP(p impl.LP) impl.LP {
 	return impl.LP{A: a, B: slices.Clone(p.B), C: slices.Clone(p.C)}
 }
 
-// guardedLP is an LP whose slices, also the one of the rows, are amid other
-// memory.
-type guardedLP struct {
-	given        impl.LP
-	whole, heads [][]int
-	rows         []guarded[int]
-	b            guarded[int]
-	c            guarded[impl.Rat]
+// guardedRows are rows amid other ones, each of them amid other memory.
+type guardedRows[E comparable] struct {
+	given, whole, heads [][]E
+	rows                []guarded[E]
 }
 
-func guardLP(p impl.LP) guardedLP {
-	g := guardedLP{b: guard(p.B, 77), c: guardRats(p.C)}
-	around := slices.Repeat([]int{77}, len(p.C))
-	for _, row := range slices.Concat([][]int{around, around}, p.A, [][]int{around, around, around}) {
-		inner := guard(row, 77)
+// guardRows surrounds the rows with others of a length, so that a function that
+// looks beyond their number would accept these.
+func guardRows[E comparable](list [][]E, length int, around E) guardedRows[E] {
+	var g guardedRows[E]
+	other := slices.Repeat([]E{around}, length)
+	for _, row := range slices.Concat([][]E{other, other}, list, [][]E{other, other, other}) {
+		inner := guard(row, around)
 		g.rows = append(g.rows, inner)
 		g.whole = append(g.whole, inner.given)
 	}
-	g.heads = slices.Clone(g.whole)
-	g.given = impl.LP{A: g.whole[2 : 2+len(p.A)], B: g.b.given, C: g.c.given}
+	g.given, g.heads = g.whole[2:2+len(list)], slices.Clone(g.whole)
 	return g
 }
 
-func (g guardedLP) wantUnchanged(t *testing.T, call string) {
+func (g guardedRows[E]) wantUnchanged(t *testing.T, call string) {
 	t.Helper()
 	for i, row := range g.rows {
 		row.wantUnchanged(t, call)
@@ -75,8 +72,38 @@ func (g guardedLP) wantUnchanged(t *testing.T, call string) {
 			t.Errorf("%s replaced a row by %v", call, now)
 		}
 	}
+}
+
+func (g guardedRows[E]) scribble(with E) {
+	for _, row := range g.rows {
+		scribble(row.whole, with)
+	}
+}
+
+type guardedLP struct {
+	given impl.LP
+	a     guardedRows[int]
+	b     guarded[int]
+	c     guarded[impl.Rat]
+}
+
+func guardLP(p impl.LP) guardedLP {
+	g := guardedLP{a: guardRows(p.A, len(p.C), 77), b: guard(p.B, 77), c: guardRats(p.C)}
+	g.given = impl.LP{A: g.a.given, B: g.b.given, C: g.c.given}
+	return g
+}
+
+func (g guardedLP) wantUnchanged(t *testing.T, call string) {
+	t.Helper()
+	g.a.wantUnchanged(t, call)
 	g.b.wantUnchanged(t, call)
 	g.c.wantUnchanged(t, call)
+}
+
+func (g guardedLP) scribble() {
+	g.a.scribble(-99)
+	scribble(g.b.whole, -99)
+	scribble(g.c.whole, pair(-99, 1))
 }
 
 type guardedResult struct {
@@ -177,10 +204,7 @@ func callColumnOf(t *testing.T, p impl.LP, j int) []int {
 	kept := slices.Clone(got)
 	scribble(got, -88)
 	g.wantUnchanged(t, "ColumnOf, or a change of its result,")
-	for _, row := range g.rows {
-		scribble(row.whole, -99)
-	}
-	scribble(g.b.whole, -99)
+	g.scribble()
 	if !slices.Equal(again, kept) {
 		t.Errorf("ColumnOf(%v, %d) = %v, but %v again", p, j, kept, again)
 	}
@@ -1389,23 +1413,43 @@ func TestRaysStayFeasible(t *testing.T) {
 	}
 }
 
-func wantEqualResults(t *testing.T, a, b impl.LpResult, want bool) {
+// equality is a function that compares two values, with what it takes to guard
+// them, and to have nil or empty slices in place of those without elements.
+type equality[V any] struct {
+	name   string
+	equal  func(a, b V) bool
+	guard  func(v V) (V, func(t *testing.T, call string))
+	hollow func(v V, absent bool) V
+}
+
+// want checks the function in both orders.
+func (e equality[V]) want(t *testing.T, a, b V, want bool) {
 	t.Helper()
 	for range 2 {
-		x, y := guardResult(a), guardResult(b)
-		got := impl.EqualResult(x.given, y.given)
+		x, wantXUnchanged := e.guard(a)
+		y, wantYUnchanged := e.guard(b)
+		got := e.equal(x, y)
 		for _, absent := range []bool{true, false} {
-			if impl.EqualResult(hollowResult(a, absent), hollowResult(b, !absent)) != want {
+			if e.equal(e.hollow(a, absent), e.hollow(b, !absent)) != want {
 				got = !want
 			}
 		}
 		if got != want {
-			t.Errorf("EqualResult(%v, %v) = %t", a, b, got)
+			t.Errorf("%s(%v, %v) = %t", e.name, a, b, got)
 		}
-		x.wantUnchanged(t, "EqualResult")
-		y.wantUnchanged(t, "EqualResult")
+		wantXUnchanged(t, e.name)
+		wantYUnchanged(t, e.name)
 		a, b = b, a
 	}
+}
+
+func wantEqualResults(t *testing.T, a, b impl.LpResult, want bool) {
+	t.Helper()
+	guard := func(r impl.LpResult) (impl.LpResult, func(t *testing.T, call string)) {
+		g := guardResult(r)
+		return g.given, g.wantUnchanged
+	}
+	equality[impl.LpResult]{"EqualResult", impl.EqualResult, guard, hollowResult}.want(t, a, b, want)
 }
 
 // otherVectors differ from v in the length, or in one element.
