@@ -194,21 +194,43 @@ func wantCheck(t *testing.T, p impl.LP, r impl.LpResult, want bool) {
 	s.wantUnchanged(t, "CheckLP")
 }
 
-// callColumnOf calls ColumnOf with a guarded LP, and checks that two results
-// share no memory with it or with each other.
+// arguments are guarded, and can be changed as a whole.
+type arguments interface {
+	wantUnchanged(t *testing.T, call string)
+	scribble()
+}
+
+// results is what it takes to examine results of one type.
+type results[R any] struct {
+	copied   func(r R) R
+	scribble func(t *testing.T, call string, r R)
+	same     func(a, b R) bool
+}
+
+func listResults[E comparable](with E) results[[]E] {
+	change := func(t *testing.T, call string, list []E) { scribble(list, with) }
+	return results[[]E]{slices.Clone[[]E], change, slices.Equal[[]E]}
+}
+
+// callTwice checks that two results of a function share no memory with its
+// arguments or with each other.
+func (s results[R]) callTwice(t *testing.T, name string, g arguments, call func() R) R {
+	t.Helper()
+	got, again := call(), call()
+	kept := s.copied(got)
+	s.scribble(t, name, got)
+	g.wantUnchanged(t, name+", or a change of its result,")
+	g.scribble()
+	if !s.same(again, kept) {
+		t.Errorf("%s returns %v, but %v again", name, kept, again)
+	}
+	return kept
+}
+
 func callColumnOf(t *testing.T, p impl.LP, j int) []int {
 	t.Helper()
 	g := guardLP(p)
-	got := impl.ColumnOf(g.given, j)
-	again := impl.ColumnOf(g.given, j)
-	kept := slices.Clone(got)
-	scribble(got, -88)
-	g.wantUnchanged(t, "ColumnOf, or a change of its result,")
-	g.scribble()
-	if !slices.Equal(again, kept) {
-		t.Errorf("ColumnOf(%v, %d) = %v, but %v again", p, j, kept, again)
-	}
-	return kept
+	return listResults(-88).callTwice(t, "ColumnOf", g, func() []int { return impl.ColumnOf(g.given, j) })
 }
 
 func wantColumn(t *testing.T, p impl.LP, j int, want ...int) {

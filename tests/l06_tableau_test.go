@@ -90,24 +90,18 @@ func scribbleTableau(t *testing.T, call string, x impl.Tableau) {
 	scribble(x.Rows, nil)
 }
 
-// callStart calls StartTableau with a guarded LP, and checks that two results
-// share no memory with it or with each other.
+func tableauResults() results[impl.Tableau] {
+	return results[impl.Tableau]{copyTableau, scribbleTableau, isSameTableau}
+}
+
 func callStart(t *testing.T, p impl.LP) impl.Tableau {
 	t.Helper()
 	g := guardLP(p)
-	got := impl.StartTableau(g.given)
-	again := impl.StartTableau(g.given)
-	kept := copyTableau(got)
-	scribbleTableau(t, "StartTableau", got)
-	g.wantUnchanged(t, "StartTableau, or a change of its result,")
-	g.scribble()
-	if !isSameTableau(again, kept) {
-		t.Errorf("StartTableau(%v) = %v, but %v again", p, kept, again)
-	}
-	return kept
+	return tableauResults().callTwice(t, "StartTableau", g, func() impl.Tableau { return impl.StartTableau(g.given) })
 }
 
-// callPivot checks the same of PivotTableau.
+// callPivot checks that two results share no memory with the guarded tableau or
+// with each other.
 func callPivot(t *testing.T, x impl.Tableau, row, col int) (impl.Tableau, bool) {
 	t.Helper()
 	g := guardTableau(x)
@@ -141,20 +135,10 @@ func callCosts(t *testing.T, x impl.Tableau, cost []impl.Rat) ([]impl.Rat, bool)
 	return kept, ok
 }
 
-// callSolution checks the same of SolutionOf.
 func callSolution(t *testing.T, x impl.Tableau) []impl.Rat {
 	t.Helper()
 	g := guardTableau(x)
-	got := impl.SolutionOf(g.given)
-	again := impl.SolutionOf(g.given)
-	kept := slices.Clone(got)
-	scribble(got, pair(-88, 1))
-	g.wantUnchanged(t, "SolutionOf, or a change of its result,")
-	g.scribble()
-	if !slices.Equal(again, kept) {
-		t.Errorf("SolutionOf(%v) = %v, but %v again", x, kept, again)
-	}
-	return kept
+	return listResults(pair(-88, 1)).callTwice(t, "SolutionOf", g, func() []impl.Rat { return impl.SolutionOf(g.given) })
 }
 
 // wantStart also passes nil and empty slices in place of those without elements.
@@ -694,20 +678,29 @@ func TestMisshapenTableaus(t *testing.T) {
 			wantNoForm(t, x)
 		}
 	}
-	// Without rows, Cols or Basis alone is wrong.
-	wantNoForm(t, tableau(-1, nil))
-	wantNoForm(t, tableau(greatestTableauCols+1, nil))
-	wantNoForm(t, tableau(math.MaxInt, nil))
-	wantNoForm(t, tableau(math.MinInt, nil))
-	wantNoForm(t, tableau(0, []int{0}))
-	wantNoForm(t, tableau(2, []int{0}))
-	// These have rows of the right length, but Cols is below 0.
-	wantNoForm(t, tableau(-1, []int{0, 0}, wholes(1, 5), wholes(2, 6)))
-	wantNoForm(t, tableau(-2, []int{0, 0, 0}, wholes(1, 5), wholes(2, 6), wholes(3, 7)))
-	wantNoForm(t, tableau(-1, []int{0}, wholes(1)))
-	wantNoForm(t, tableau(-1, []int{-1}, wholes(1)))
-	wantNoForm(t, tableau(-2, []int{0}, nil))
-	wantNoForm(t, tableau(-2, []int{-1}, []impl.Rat{}))
+	for _, x := range otherMisshapenTableaus() {
+		wantNoForm(t, x)
+	}
+}
+
+// otherMisshapenTableaus have no rows, or Cols below 0.
+func otherMisshapenTableaus() []impl.Tableau {
+	return []impl.Tableau{
+		// Without rows, Cols or Basis alone is wrong.
+		tableau(-1, nil),
+		tableau(greatestTableauCols+1, nil),
+		tableau(math.MaxInt, nil),
+		tableau(math.MinInt, nil),
+		tableau(0, []int{0}),
+		tableau(2, []int{0}),
+		// These have rows of the right length, but Cols is below 0.
+		tableau(-1, []int{0, 0}, wholes(1, 5), wholes(2, 6)),
+		tableau(-2, []int{0, 0, 0}, wholes(1, 5), wholes(2, 6), wholes(3, 7)),
+		tableau(-1, []int{0}, wholes(1)),
+		tableau(-1, []int{-1}, wholes(1)),
+		tableau(-2, []int{0}, nil),
+		tableau(-2, []int{-1}, []impl.Rat{}),
+	}
 }
 
 func TestTableausAtTheLimitsOfCols(t *testing.T) {
