@@ -158,40 +158,35 @@ func wantRestrict(t *testing.T, g impl.Game, s int, want built) {
 	}
 }
 
-// wantNumber checks a number that a function computes of a game.
-func wantNumber(t *testing.T, call string, g impl.Game, number func(g impl.Game) int, want int) {
+// wantOfGame checks what a function that returns no slice says of a game.
+func wantOfGame[R comparable](t *testing.T, call string, g impl.Game, function func(g impl.Game) R, want R) {
 	t.Helper()
 	x, values := guardGame(g)
-	got := number(x)
+	got := function(x)
 	for _, absent := range []bool{true, false} {
-		if other := number(hollowGame(g, absent)); other != want {
+		if other := function(hollowGame(g, absent)); other != want {
 			got = other
 		}
 	}
 	if got != want {
-		t.Errorf("%s of %v = %d; want %d", call, g, got, want)
+		t.Errorf("%s of %v = %v; want %v", call, g, got, want)
 	}
 	values.wantUnchanged(t, call)
 }
 
 func wantValue(t *testing.T, g impl.Game, s, want int) {
 	t.Helper()
-	wantNumber(t, fmt.Sprint("ValueOf ", s), g, func(g impl.Game) int { return impl.ValueOf(g, s) }, want)
+	wantOfGame(t, fmt.Sprint("ValueOf ", s), g, func(g impl.Game) int { return impl.ValueOf(g, s) }, want)
 }
 
 func wantGrand(t *testing.T, g impl.Game, want int) {
 	t.Helper()
-	wantNumber(t, "GrandValue", g, impl.GrandValue, want)
+	wantOfGame(t, "GrandValue", g, impl.GrandValue, want)
 }
 
 func wantValidGame(t *testing.T, g impl.Game, want bool) {
 	t.Helper()
-	x, values := guardGame(g)
-	got := impl.IsValidGame(x)
-	if got != want || impl.IsValidGame(hollowGame(g, true)) != want || impl.IsValidGame(hollowGame(g, false)) != want {
-		t.Errorf("IsValidGame(%v) = %t", g, got)
-	}
-	values.wantUnchanged(t, "IsValidGame")
+	wantOfGame(t, "IsValidGame", g, impl.IsValidGame, want)
 }
 
 func wantEqualGames(t *testing.T, a, b impl.Game, want bool) {
@@ -295,28 +290,28 @@ func otherPlayers(n int) []int {
 	return list
 }
 
-// spoiledGames are plainGame(n) with one fault each.
-func spoiledGames(n int) []impl.Game {
-	plain := plainGame(n)
+// spoiledGames are a valid game with one fault each.
+func spoiledGames(g impl.Game) []impl.Game {
+	n := g.Players
 	var list []impl.Game
 	for _, players := range otherPlayers(n) {
-		list = append(list, impl.Game{Players: players, Values: plain.Values})
+		list = append(list, impl.Game{Players: players, Values: g.Values})
 	}
 	for _, values := range [][]int{
-		nil, plain.Values[:1], plain.Values[:len(plain.Values)-1], plain.Values[1:], append([]int{0}, plain.Values...),
-		append(slices.Clone(plain.Values), 0), append(slices.Clone(plain.Values), 1), slices.Repeat(plain.Values, 2),
+		nil, g.Values[:1], g.Values[:len(g.Values)-1], g.Values[1:], append([]int{0}, g.Values...),
+		append(slices.Clone(g.Values), 0), append(slices.Clone(g.Values), 1), slices.Repeat(g.Values, 2),
 	} {
-		if len(values) != len(plain.Values) {
+		if len(values) != len(g.Values) {
 			list = append(list, impl.Game{Players: n, Values: values})
 		}
 	}
-	for s := range plain.Values {
+	for s := range g.Values {
 		for _, value := range beyondValues() {
-			list = append(list, valued(plain, s, value))
+			list = append(list, valued(g, s, value))
 		}
 	}
 	for _, value := range []int{1, -1, 7, greatestValue, -greatestValue} {
-		list = append(list, valued(plain, 0, value))
+		list = append(list, valued(g, 0, value))
 	}
 	return list
 }
@@ -362,7 +357,7 @@ func TestIsValidGameValues(t *testing.T) {
 func TestSpoiledGames(t *testing.T) {
 	for n := 1; n <= impl.MaxPlayers; n++ {
 		plain, zeros := plainGame(n), make([]int, n)
-		for _, g := range append(spoiledGames(n), impl.Game{}) {
+		for _, g := range append(spoiledGames(plain), impl.Game{}) {
 			wantValidGame(t, g, false)
 			wantGrand(t, g, 0)
 			wantAdd(t, g, plain, built{})

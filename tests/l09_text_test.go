@@ -237,7 +237,7 @@ func TestFormatGameOfSpoiledGames(t *testing.T) {
 	wantGameText(t, impl.Game{Players: 6, Values: make([]int, 64)}, "")
 	for n := 1; n <= impl.MaxPlayers; n++ {
 		wantGameText(t, impl.Game{Players: n}, "")
-		for _, g := range spoiledGames(n) {
+		for _, g := range spoiledGames(plainGame(n)) {
 			wantGameText(t, g, "")
 		}
 	}
