@@ -102,14 +102,19 @@ func coreResults() results[impl.CoreResult] {
 	copied := func(r impl.CoreResult) impl.CoreResult {
 		return impl.CoreResult{Code: r.Code, Point: slices.Clone(r.Point), Weights: slices.Clone(r.Weights)}
 	}
-	change := func(t *testing.T, call string, r impl.CoreResult) {
-		scribble(r.Point, pair(-88, 1))
-		scribble(r.Weights, pair(-77, 1))
-		if slices.Contains(r.Point[:cap(r.Point)], pair(-77, 1)) {
-			t.Errorf("%s: the Point and the Weights share memory", call)
-		}
-	}
+	change := func(t *testing.T, call string, r impl.CoreResult) { scribbleBoth(t, call, r.Point, r.Weights) }
 	return results[impl.CoreResult]{copied, change, isSameCore}
+}
+
+// scribbleBoth changes all memory of two vectors of a result, and checks that they
+// share none.
+func scribbleBoth(t *testing.T, call string, point, weights []impl.Rat) {
+	t.Helper()
+	scribble(point, pair(-88, 1))
+	scribble(weights, pair(-77, 1))
+	if slices.Contains(point[:cap(point)], pair(-77, 1)) {
+		t.Errorf("%s: the Point and the Weights share memory", call)
+	}
 }
 
 // wantFound also passes nil and empty slices in place of those without elements.
@@ -369,14 +374,7 @@ func TestBalancedLPKnownGames(t *testing.T) {
 func TestBalancedLPOfEveryNumberOfPlayers(t *testing.T) {
 	d := newDrawn()
 	for n := 1; n <= impl.MaxPlayers; n++ {
-		games := []impl.Game{
-			plainGame(n), flatGame(n, 0), flatGame(n, greatestValue), flatGame(n, -greatestValue), d.drawnGame(n, 3),
-			d.drawnGame(n, greatestValue), valued(flatGame(n, 0), 1<<n-1, 5),
-		}
-		for s := 1; s < 1<<n; s++ {
-			games = append(games, valued(flatGame(n, 0), s, greatestValue), valued(flatGame(n, 0), s, -greatestValue))
-		}
-		for _, g := range games {
+		for _, g := range d.variedGames(n) {
 			want := definedProgram(g)
 			if len(want.p.A) != n || len(want.p.A[0]) != 1<<n-1 || len(want.p.C) != 1<<n-1 {
 				t.Errorf("the LP of %v is defined as %v", g, want)
@@ -384,6 +382,18 @@ func TestBalancedLPOfEveryNumberOfPlayers(t *testing.T) {
 			wantBalancedLP(t, g, want)
 		}
 	}
+}
+
+// variedGames have great values in every place, or in one alone.
+func (d drawn) variedGames(n int) []impl.Game {
+	games := []impl.Game{
+		plainGame(n), flatGame(n, 0), flatGame(n, greatestValue), flatGame(n, -greatestValue), d.drawnGame(n, 3),
+		d.drawnGame(n, greatestValue), valued(flatGame(n, 0), 1<<n-1, 5),
+	}
+	for s := 1; s < 1<<n; s++ {
+		games = append(games, valued(flatGame(n, 0), s, greatestValue), valued(flatGame(n, 0), s, -greatestValue))
+	}
+	return games
 }
 
 func TestCoresOfSpoiledGames(t *testing.T) {
@@ -634,14 +644,19 @@ func (d drawn) drawnMixture(n, den int) []impl.Rat {
 	w := list[d.Intn(len(list))].weightsFor(n)
 	for range d.Intn(3) {
 		share, _ := impl.RatOf(d.between(0, den), den)
-		rest, _ := impl.SubRat(pair(1, 1), share)
-		scaled, _ := impl.AddScaled(slices.Repeat(wholes(0), len(w)), rest, w)
-		mixed, ok := impl.AddScaled(scaled, share, list[d.Intn(len(list))].weightsFor(n))
-		if ok {
-			w = mixed
-		}
+		w = mixed(w, list[d.Intn(len(list))].weightsFor(n), share)
 	}
 	return w
+}
+
+// mixed takes a share of b, and the rest of a; all of a if this does not fit.
+func mixed(a, b []impl.Rat, share impl.Rat) []impl.Rat {
+	rest, _ := impl.SubRat(pair(1, 1), share)
+	scaled, _ := impl.AddScaled(slices.Repeat(wholes(0), len(a)), rest, a)
+	if sum, ok := impl.AddScaled(scaled, share, b); ok {
+		return sum
+	}
+	return a
 }
 
 // drawnWeights draws mixtures, of simple and of rare fractions, and sometimes
